@@ -132,7 +132,7 @@ func TestWhoGives(t *testing.T) {
 	// b and c were offered 1 each: d with 1 has no more, with 2 it has; b stands ahead of c.
 	wantCheck(t, l, 0, "d", 1, allow(4))
 	wantCheck(t, l, 0, "d", 1, allow(3), down("b", 0), up("d", 0))
-	// From 11 on a is idle (its unit is 1, it is full up to 2, and not young): from 12 on.
+	// A unit is 1: b and c are idle from 12 on, a from 14 on.
 	r.Limit = 13
 	l = limiter.New(r, draws(2, 9))
 	wantCheck(t, l, 0, "a", 4, allow(0), up("a", 0))
