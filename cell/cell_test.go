@@ -100,6 +100,14 @@ func TestYoung(t *testing.T) {
 	}
 }
 
+// P9.1: a carry and what was used are held against the limit without running over.
+func TestGreatestCarry(t *testing.T) {
+	p, c := pace(10, 100, 5), cell.New(0, math.MaxInt64)
+	if !c.Take(p, 100, 5) || c.Room(p, 99) != 0 || c.Wait(p, 99, 1) != 18 {
+		t.Fatal(c, c.Room(p, 99), c.Wait(p, 99, 1))
+	}
+}
+
 // P9.1 of Bound, Idle: their edges.
 func TestBound(t *testing.T) {
 	p := pace(10, 100, 5)

@@ -38,6 +38,7 @@ func answers() []told {
 		{frame.Listed(9, nil), frame.Said{Op: api.Top, Rule: 9}, "\xa8\x01\x00\x03\x84\x09\x00"},
 		{frame.Listed(0, list), frame.Said{Op: api.Top, List: list}, "\xa8\x01\x00\x78\x84\x00\x03" +
 			"\x00" + zeros + "\x01" + zeros + "\x02" + "\x02a\x00" + ones + zeros + "\x03" + "\x40" + long + zeros + "\x04" + zeros + "\x05"},
+		{frame.Listed(0, list[:1]), frame.Said{Op: api.Top, List: list[:1]}, "\xa8\x01\x00\x14\x84\x00\x01\x00" + zeros + "\x01" + zeros + "\x02"},
 		{frame.Faulted(api.ErrMagic), frame.Said{Op: api.Fault, Err: api.ErrMagic}, "\xa8\x01\x00\x02\xff\x05"},
 		{frame.Faulted(255), frame.Said{Op: api.Fault, Err: 255}, "\xa8\x01\x00\x02\xff\xff"},
 	}
@@ -112,7 +113,7 @@ func TestReadOfAnyBytes(t *testing.T) {
 	d := rand.New(rand.NewSource(13))
 	read := 0
 	for range 200000 {
-		a := answers()[d.Intn(8)].got
+		a := answers()[d.Intn(9)].got
 		for range d.Intn(3) {
 			a[d.Intn(len(a))] = byte(d.Intn(256))
 		}

@@ -85,7 +85,7 @@ func TestOneCellTwoKeys(t *testing.T) {
 
 // P12.1: the first three answers in their order; nothing but the counts changes.
 func TestRefused(t *testing.T) {
-	never := deny(0, limiter.Never)
+	never := deny(0, math.MaxInt64)
 	bad := api.Answer{Verdict: api.BadCost}
 	for _, c := range []struct {
 		now, held, cost int64
@@ -248,6 +248,29 @@ func TestBytes(t *testing.T) {
 	want := pool.Bytes(7) + ring.Bytes(r) + summary.Bytes(9) + 24*4
 	if got := limiter.Bytes(r); got != want || got != 7*(69+32)+15*4+6*(16+8*3*64)+9*(69+24)+19*4+96 {
 		t.Fatal(got)
+	}
+}
+
+// P12.1 of Mass: the ring's time is that; later answers come of it.
+func TestMassMovesTheTime(t *testing.T) {
+	l := limiter.New(rule(), draws(5, 9))
+	wantCheck(t, l, 0, "a", 4, allow(0), up("a", 0))
+	wantCheck(t, l, 0, "b", 3, allow(4))
+	for now, want := range []int64{3, 3, 3, 3, 3, 3, 3, 3, 3, 3, 3, 3, 0} {
+		if got := l.Mass(int64(now), 0, "b"); got != want || l.Mass(0, 1, "b") != want || l.Mass(0, 2, "b") != 0 {
+			t.Fatal(now, got)
+		}
+	}
+}
+
+// P12.1: a key of no byte and one of MaxKey bytes are keys as others are.
+func TestShortestLongestKey(t *testing.T) {
+	for _, key := range []string{"", strings.Repeat("l", api.MaxKey)} {
+		l := limiter.New(rule(), draws(6, 9))
+		wantCheck(t, l, 0, key, 3, allow(1), up(key, 0))
+		if _, ok := l.Resident(key); !ok || !slices.Equal(l.Top(1), []api.Count{{Key: key, N: 3}}) {
+			t.Fatal(l.Top(1))
+		}
 	}
 }
 

@@ -211,6 +211,22 @@ func TestWait(t *testing.T) {
 	}
 }
 
+// P0: of times past those that there are nothing is said, but that each call ends.
+func TestLatestTimesEnd(t *testing.T) {
+	for slots := range 7 {
+		for back := range int64(8) {
+			x := ring.New(rule(10, int64(slots), slots, false), rows(1))
+			x.To(math.MaxInt64 - back)
+			x.Add("a", 9)
+			x.Wait("a", 5)
+			x.Wait("a", math.MaxInt64)
+			x.Estimate("a")
+			x.Mass(0, "a")
+			x.Number(math.MinInt64)
+		}
+	}
+}
+
 // plain is a ring written plainly: a sketch for each number there ever was.
 type plain struct {
 	rule  api.Rule

@@ -89,7 +89,7 @@ func TestNew(t *testing.T) {
 			t.Fatal(i)
 		}
 	}
-	for _, i := range []int{math.MinInt, -1, 2, 15, 16, math.MaxInt} {
+	for _, i := range []int{math.MinInt, -1, 2, 7, 8, 15, 16, math.MaxInt} {
 		if s.Conn(i) != nil || s.Rule(i) != nil {
 			t.Fatal(i)
 		}
